@@ -1,0 +1,1 @@
+"""Threadsround: a pattern turned round a middle, laid with threads."""

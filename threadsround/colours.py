@@ -1,0 +1,51 @@
+"""Light and dark faces and corners."""
+
+from threadsround.ends import end_before
+from threadsround.faces import faces_of, numbers_at, outside_of
+from threadsround.needs import is_crossing, need
+
+
+def dark_faces(pattern):
+    """A tuple that tells for each face, by its number, whether it is dark."""
+    faces = faces_of(pattern)
+    numbers = numbers_at(pattern)
+    outside = outside_of(pattern)
+    dark = {outside: False}
+    waiting = [outside]
+    while waiting:
+        here = waiting.pop()
+        for corner in faces[here]:
+            beside = numbers[end_before(corner)]
+            if beside not in dark:
+                dark[beside] = not dark[here]
+                waiting.append(beside)
+    return tuple([dark[number] for number in range(len(faces))])
+
+
+def dark_at(pattern):
+    """A tuple that tells for each corner whether it is dark."""
+    dark = dark_faces(pattern)
+    return tuple([dark[number] for number in numbers_at(pattern)])
+
+
+def colours_of(pattern):
+    """A tuple with "light" or "dark" for each face, by their numbers."""
+    return tuple(["dark" if dark else "light" for dark in dark_faces(pattern)])
+
+
+def corners_that_are(pattern, crossing, wanted):
+    """The corners of crossing that are dark, or not, as wanted tells."""
+    dark = dark_at(pattern)
+    return tuple([corner for corner in range(4 * crossing, 4 * crossing + 4) if dark[corner] == wanted])
+
+
+def dark_corners(pattern, crossing):
+    """The pair of the dark corners of crossing, ascending."""
+    need(is_crossing(pattern, crossing), "crossing")
+    return corners_that_are(pattern, crossing, True)
+
+
+def light_corners(pattern, crossing):
+    """The pair of the light corners of crossing, ascending."""
+    need(is_crossing(pattern, crossing), "crossing")
+    return corners_that_are(pattern, crossing, False)
