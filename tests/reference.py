@@ -219,3 +219,139 @@ def all_patterns(crossings, shifts=(-1, 0, 1)):
             if fault(tuple(ends)) is None:
                 found.append(tuple(ends))
     return found
+
+
+def letter_corners(ends, crossing, letter):
+    """The two corners that the letter runs together."""
+    return [c for c in range(4 * crossing, 4 * crossing + 4) if is_dark(ends, c) == (letter == "D")]
+
+
+def smooth_word(ends, crossing, letter):
+    if len(ends) == 4:
+        return "alone"
+    one, other = [face_number(ends, corner) for corner in letter_corners(ends, crossing, letter)]
+    sums = totals(ends)
+    if {sums[one], sums[other]} == {1, -1}:
+        return "joined"
+    return "apart" if one == other else "sound"
+
+
+def contracted(ends, crossing, letter):
+    """The lines left, as a dict, joint after joint being closed; and the shifts of the bare rings."""
+    lines = dict(enumerate(ends))
+    rings = []
+    laying = "".join(letter if c == crossing else "D" for c in range(len(ends) // 4))
+    left = set(range(4 * crossing, 4 * crossing + 4))
+    while left:
+        one = min(left)
+        other = joined(ends, laying, one)
+        left -= {one, other}
+        (mine, back), (its, on) = lines.pop(one), lines.pop(other)
+        if mine == other:
+            rings.append(abs(back))
+        else:
+            lines[mine], lines[its] = (its, on - back), (mine, back - on)
+    return lines, rings
+
+
+def numbered(lines, crossings):
+    """The ends of these crossings, in their sequence, among the lines."""
+    place = {c: k for k, c in enumerate(crossings)}
+    return tuple((4 * place[lines[4 * c + p][0] // 4] + lines[4 * c + p][0] % 4, lines[4 * c + p][1])
+                 for c in crossings for p in range(4))
+
+
+def hanging(lines, crossing):
+    """The sorted crossings that hang together with this one by the lines."""
+    found, waiting = {crossing}, [crossing]
+    while waiting:
+        here = waiting.pop()
+        for p in range(4):
+            there = lines[4 * here + p][0] // 4
+            if there not in found:
+                found.add(there)
+                waiting.append(there)
+    return sorted(found)
+
+
+def walk_parts(ends, one, other):
+    """The sums of shifts from corner one to corner other, and from other to one."""
+    sums = []
+    for start, stop in ((one, other), (other, one)):
+        here, total = start, 0
+        while True:
+            total += ends[here][1]
+            here = corner_walk(ends, here)
+            if here == stop:
+                break
+        sums.append(total)
+    return sums
+
+
+def drawing(ends, sectors):
+    crossings = len(ends) // 4
+    told = {}
+    for i in range(sectors):
+        for end, (to, shift) in enumerate(ends):
+            j = (i + shift) % sectors
+            told[4 * i * crossings + end] = (4 * j * crossings + to, (i + shift - j) // sectors)
+    return tuple(told[e] for e in range(4 * crossings * sectors))
+
+
+def moved_crossings(ends, far):
+    """Each crossing c moved by far[c]."""
+    return tuple((to, shift + far[end // 4] - far[to // 4]) for end, (to, shift) in enumerate(ends))
+
+
+def is_modular(sectors, thing):
+    if type(thing) is not tuple or not thing or len(thing) % 4:
+        return False
+    for e, pair in enumerate(thing):
+        if type(pair) is not tuple or [type(x) for x in pair] != [int, int]:
+            return False
+        if not 0 <= pair[0] < len(thing) or pair[0] == e or not 0 <= pair[1] < sectors:
+            return False
+    for e, (to, shift) in enumerate(thing):
+        if thing[to] != (e, (sectors - shift) % sectors):
+            return False
+    if len(crossings_with(thing, 0)) < len(thing) // 4 or len(faces(thing)) != len(thing) // 4 + 2:
+        return False
+    sums = [total % sectors for total in totals(thing)]
+    return sums.count(1) == 1 and sums.count(sectors - 1) == 1 and sums.count(0) == len(sums) - 2
+
+
+def with_new_crossing(ends, lines):
+    """The ends with a crossing more whose four ends have the lines (to, shift)."""
+    found = dict(enumerate(ends))
+    for p, (to, shift) in enumerate(lines):
+        found[len(ends) + p] = (to, shift)
+        found[to] = (len(ends) + p, -shift)
+    return tuple(found[e] for e in range(len(ends) + 4))
+
+
+def put_in(ends, corner, other):
+    """[29], word by word."""
+    (its, s), (far, t) = ends[corner], ends[other]
+    b, here = 0, corner_walk(ends, corner)
+    while here != other:
+        b += ends[here][1]
+        here = corner_walk(ends, here)
+    return with_new_crossing(ends, [(corner, 0), (its, s), (other, s + b), (far, t + s + b)])
+
+
+def petal_on(ends, end, shift):
+    """[29], word by word."""
+    its, old = ends[end]
+    new = len(ends)
+    return with_new_crossing(ends, [(end, 0), (its, old), (new + 3, shift), (new + 2, -shift)])
+
+
+def nested(ends, corner, other, place):
+    """[30], word by word."""
+    both = ends + tuple((to + len(ends), shift) for to, shift in other)
+    (its, s), (far, t) = ends[corner], other[place]
+    return with_new_crossing(both, [(corner, 0), (its, s), (len(ends) + place, 0), (len(ends) + far, t)])
+
+
+def face_letter(ends, corner):
+    return "D" if is_dark(ends, corner) else "L"

@@ -34,6 +34,7 @@ FEW = [*NAMED, *ONES, *TWOS[::37], *THREES[::4], *FOURS[::7]]
 SOME = [*NAMED, *ONES, *SOME_TWOS, *THREES, *FOURS[::2]]
 
 GREAT = 10 ** 59 + 7
+OTHER_LETTER = {"D": "L", "L": "D", "X": "X"}
 # None of these is an integer; whoever takes one for 1 or 0 has not looked at its kind.
 NO_INTEGERS = (True, False, None, "", "0", "1", "D", (), (0,), (1, 0), [], [0], ((0,),), (None,))
 NO_TUPLES = (True, False, None, 0, 1, -1, GREAT, "", "D", "0+0", [], [0], [(1, 1), (0, -1)])

@@ -26,7 +26,7 @@ class InterfaceTest(unittest.TestCase):
                 self.assertIn(name, defined, module)
                 self.assertEqual(written(defined[name]), parameters, name)
                 loaded = getattr(importlib.import_module(f"threadsround.{module}"), name)
-                self.assertEqual(list(inspect.signature(loaded).parameters), parameters.split(", "))
+                self.assertEqual(", ".join(inspect.signature(loaded).parameters), parameters)
 
     def test_classes_have_each_method_in_their_own_body(self):
         for module, classes in interface.CLASSES.items():

@@ -23,6 +23,7 @@ class MirrorsTest(StrictCase):
     def test_mirrored_faces(self):
         for pattern in SOME:
             other = mirrored(pattern)
+            self.assertEqual(reference.cut(other), reference.cut(pattern))
             its = {frozenset(face): k for k, face in enumerate(reference.faces(other))}
             for k, face in enumerate(reference.faces(pattern)):
                 image = [corner - corner % 4 + 3 - corner % 4 for corner in face]
@@ -40,6 +41,7 @@ class MirrorsTest(StrictCase):
             self.same(is_pattern(other), True)
             self.same(inside_out(other), pattern)
             self.same(reference.faces(other), reference.faces(pattern))
+            self.assertEqual(reference.cut(other), reference.cut(pattern))
             self.same(reference.totals(other), [-total for total in reference.totals(pattern)])
             changes = [one != two for one, two in zip(reference.colours(other), reference.colours(pattern))]
             self.assertEqual(changes, [reference.cut(pattern) % 2 == 1] * len(changes))

@@ -17,6 +17,7 @@ class NamingsTest(StrictCase):
         its = zip(reference.faces(other), reference.totals(other), reference.colours(other))
         wanted = sorted((sorted(names[c] for c in face), total, colour) for face, total, colour in mine)
         self.assertEqual(wanted, sorted((sorted(face), total, colour) for face, total, colour in its))
+        self.assertEqual(reference.cut(other), reference.cut(pattern))
 
     def test_examples(self):
         self.same(moved_on(THREE, 0, 1), ((1, 1), (0, -1), (4, -2), (5, -1), (2, 2), (3, 1), (7, -1), (6, 1)))

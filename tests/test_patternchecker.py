@@ -88,6 +88,8 @@ class PatternCheckerTest(StrictCase):
         mixed = ((9, 0), (8, 0), (11, 0), (10, 0), (5, 1), (4, -1), (7, -1), (6, 1), (1, 0), (0, 0), (3, 0), (2, 0))
         self.refused(mixed, "apart", 1)
         self.refused(beside(wreath(300), wreath(300)), "apart", 300)
+        self.refused(beside(wreath(40), TWO), "apart", 40)
+        self.refused(beside(TWO, wreath(40)), "apart", 1)
 
     def test_faces(self):
         self.refused(((2, 0), (3, 0), (0, 0), (1, 0)), "faces", 1)

@@ -2,6 +2,7 @@ import unittest
 
 import reference
 from samples import FEW, GREAT, LEAF, NO_INTEGERS, ODD, THREE, TWO, StrictCase
+from threadsround.drawings import drawn
 from threadsround.errors import InvalidRow, InvalidText
 from threadsround.mirrors import inside_out, mirrored
 from threadsround.namings import moved_on, spun
@@ -24,6 +25,7 @@ class PatternTest(StrictCase):
             self.same(len(thing), len(pattern) // 4)
             self.same(list(thing), list(reference.faces(pattern)))
             self.same([face for face in thing], list(thing))
+        self.same([len(Pattern(drawn(TWO, many))) for many in range(1, 37)], list(range(1, 37)))
         for name in ("told", "faces_told", "as_line"):
             self.assertRaises(AttributeError, setattr, Pattern(TWO), name, 1)
 

@@ -47,6 +47,27 @@ def totals_of(pattern):
     return tuple([walk_sum(pattern, face) for face in faces_of(pattern)])
 
 
+def walk_between(pattern, corner, other):
+    """The corners of the walk from corner to other, in one face, other left out."""
+    walk = walk_from(pattern, corner)
+    return walk[:walk.index(other)]
+
+
+def middle_corners(pattern):
+    """The face that is the middle."""
+    return faces_of(pattern)[middle_of(pattern)]
+
+
+def is_middle_corner(pattern, thing):
+    """Whether thing is a corner of the middle."""
+    return is_end(pattern, thing) and thing in middle_corners(pattern)
+
+
+def is_outside_corner(pattern, thing):
+    """Whether thing is a corner of the outside."""
+    return is_end(pattern, thing) and thing in faces_of(pattern)[outside_of(pattern)]
+
+
 def face_at(pattern, corner):
     """The number of the face of corner."""
     need(is_end(pattern, corner), "corner")

@@ -20,6 +20,16 @@ def named_anew(ends, names):
     return tuple(named)
 
 
+def picked(ends, kept):
+    """The ends of the crossings kept alone, whose lines lead among them, numbered in their sequence."""
+    places = {crossing: place for place, crossing in enumerate(kept)}
+    found = []
+    for crossing in kept:
+        for to, shift in ends[4 * crossing:4 * crossing + 4]:
+            found.append((4 * places[to // 4] + to % 4, shift))
+    return tuple(found)
+
+
 def reached_from(ends, crossing):
     """The ascending list of the crossings to which lines lead from crossing, it among them."""
     reached = {crossing: True}

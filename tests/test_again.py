@@ -1,0 +1,58 @@
+"""The same call twice gives the same answer, a new one, and changes no argument."""
+
+import importlib
+import unittest
+
+import interface
+from samples import FOUR, THREE, TWO, StrictCase
+
+ENDS = ((1, 1), (0, 2), (3, 2), (2, 1))
+CALLS = {
+    "is_integer": (1,), "is_number": (1,), "is_quotient": ((1, 2),), "is_row": ((1,),), "is_word": (3, (1, 2)),
+    "quotient_of": (6, -4), "plus": ((1, 2), (1, 3)), "minus": ((1, 2), (1, 3)), "times": ((1, 2), (1, 3)),
+    "over": ((1, 2), (1, 3)), "is_less": ((1, 2), (1, 3)), "row_of": ((1, 0),), "row_plus": ((1,), (1, 2)),
+    "row_times": ((1, 1), (1, 2)), "row_at": ((1, 1), (1, 2)), "row_moved": ((1, 1), 3), "sign_changes": ((1, -1),),
+    "crossing_of": (7,), "next_end": (7,), "end_before": (7,), "end_across": (7,), "partner_of": (THREE, 3),
+    "shift_of": (THREE, 3), "lines_of": (THREE,), "lets_pattern": (THREE,), "is_pattern": (THREE,),
+    "faces_of": (THREE,), "face_at": (THREE, 5), "total_of": (THREE, 1), "middle_of": (THREE,), "outside_of": (THREE,),
+    "faces_round": (THREE, 0), "colours_of": (THREE,), "dark_corners": (THREE, 1), "light_corners": (THREE, 1),
+    "strand_pattern": (3, (1, 2)), "renamed": (THREE, (1, 0)), "spun": (THREE, 0, 1), "moved_on": (THREE, 0, 1),
+    "mirrored": (THREE,), "inside_out": (THREE,), "pattern_line": (THREE,), "read_pattern": ("1+1 0-1 3-1 2+1",),
+    "drawn": (THREE, 3), "drawn_end": (THREE, 3, 2, 1), "end_told": (THREE, 3, 17), "is_modular": (3, ENDS),
+    "lifted": (3, ENDS), "writing_from": (THREE, 0), "least_writing": (THREE,), "are_alike": (THREE, THREE),
+    "alike_map": (THREE, THREE), "greatest_turning": (THREE,), "turnings_of": (THREE,), "turning_map": (THREE, 1),
+    "sector_for": (THREE, 1), "smooth_word": (THREE, 0, "D"), "smoothed": (THREE, 0, "D"),
+    "falls_round": (THREE, 0, "L"), "fallen": (THREE, 0, "L"), "can_put": (TWO, 1, 3), "put_in": (TWO, 1, 3),
+    "petal_on": (TWO, 0, 1), "nested": (TWO, 2, THREE, 0), "taken_down": (FOUR,), "lets_down": (THREE, ((0, "D"),)),
+    "built_up": (TWO, (("put", 1, 3), ("petal", 0, 0))), "single_patterns": (), "is_laying": (2, "DX"),
+    "is_plain": (2, "DL"), "joined_end": (THREE, "DX", 5), "letter_for": (THREE, 0, 0, 1), "loops_of": (THREE, "LX"),
+    "loop_at": (THREE, "LX", 5), "walk_total": (THREE, (0,)), "windings_of": (THREE, "LX"), "is_walk": (THREE, (0,)),
+    "threads_of": (THREE, "LX", 3), "thread_row": ((2, 1, 0), 4), "round_threads": ((2, 1, 0), 4), "repeated": ("DX", 3),
+    "turned_laying": (TWO, 3, "DLX", 1), "is_kept": (TWO, 3, "DDD", 3), "kept_order": (TWO, 3, "DDD"),
+}
+
+
+def is_plain_value(thing):
+    """Whether thing is an integer, bool, string or None, or a tuple of such: nothing that could be changed later."""
+    if type(thing) is tuple:
+        return all(is_plain_value(part) for part in thing)
+    return thing is None or type(thing) in (int, bool, str)
+
+
+class AgainTest(StrictCase):
+    def test_each_function(self):
+        for module, functions in interface.FUNCTIONS.items():
+            for name in functions:
+                function = getattr(importlib.import_module(f"threadsround.{module}"), name)
+                args = CALLS[name]
+                kept = repr(args)
+                first = function(*args)
+                self.assertTrue(is_plain_value(first), name)
+                self.same(function(*args), first)
+                self.assertEqual(repr(args), kept, name)
+                named = dict(zip(functions[name].split(", "), args)) if args else {}
+                self.same(function(**named), first)
+
+
+if __name__ == "__main__":
+    unittest.main()
