@@ -1,4 +1,5 @@
 import unittest
+from itertools import permutations
 
 import reference
 from samples import FEW, FOUR, FOURS, GREAT, LEAF, NO_INTEGERS, NO_TUPLES, ONES, SOME, THREE, THREES, TWO, TWOS, StrictCase
@@ -7,6 +8,7 @@ from threadsround.drawings import drawn
 from threadsround.errors import NotUsable
 from threadsround.petals import petal_on
 from threadsround.puttings import put_in
+from threadsround.shiftings import with_totals
 from threadsround.smoothings import smoothed
 from threadsround.strands import strand_pattern
 from threadsround.takings import built_up, lets_down, single_patterns, taken_down
@@ -98,6 +100,23 @@ class TakingsTest(StrictCase):
         pairs = ((-1, 0), (-1, 1), (0, -1), (0, 1), (1, -1), (1, 0))
         self.same(single_patterns(), tuple(((1, a), (0, -a), (3, b), (2, -b)) for a, b in pairs))
         self.same(set(single_patterns()) <= set(ONES), True)
+
+    def test_the_written_kinds_of_three_are_all_there_are(self):
+        """They were grown by puts and petals; here every plane joining of twelve ends is gone through instead."""
+        kinds = set()
+        for lines in reference.matchings(list(range(12))):
+            bare = [None] * 12
+            for one, other in lines:
+                bare[one], bare[other] = (other, 0), (one, 0)
+            if len(reference.crossings_with(bare, 0)) < 3 or len(reference.faces(bare)) != 5:
+                continue
+            for inner, outer in permutations(range(5), 2):
+                totals = [(k == inner) - (k == outer) for k in range(5)]
+                pattern = with_totals([to for to, _ in bare], totals)
+                self.same(reference.fault(pattern), None)
+                kinds.add(least_writing(pattern))
+        self.assertEqual(kinds, {least_writing(pattern) for pattern in THREES})
+        self.assertEqual(len(kinds), len(THREES))
 
     def test_each_pattern_is_built_of_a_single_one(self):
         """All patterns of two crossings, and the written kinds of three, are reached by puts and petals."""
