@@ -3,6 +3,7 @@
 Nothing here is imported from the package.
 """
 
+from functools import lru_cache
 from itertools import product
 
 
@@ -73,6 +74,7 @@ def fault(thing):
     return None
 
 
+@lru_cache(maxsize=100000)
 def face_number(ends, corner):
     return next(k for k, face in enumerate(faces(ends)) if corner in face)
 
@@ -102,20 +104,24 @@ def distances(ends, start):
     return [far[k] for k in range(len(far))]
 
 
+@lru_cache(maxsize=100000)
 def cut(ends):
     sums = totals(ends)
     return distances(ends, sums.index(1))[sums.index(-1)]
 
 
+@lru_cache(maxsize=100000)
 def colours(ends):
     """Faces an odd number of lines away from the outside are dark."""
     return ["dark" if far % 2 else "light" for far in distances(ends, totals(ends).index(-1))]
 
 
+@lru_cache(maxsize=100000)
 def is_dark(ends, corner):
     return colours(ends)[face_number(ends, corner)] == "dark"
 
 
+@lru_cache(maxsize=100000)
 def joined(ends, laying, end):
     """The end joined with end, by the colour of the corner that lies between the two."""
     letter = laying[end // 4]

@@ -4,6 +4,7 @@ import unittest
 
 import corpus
 import reference
+import reference_loops
 
 TWO = ((1, 1), (0, -1), (3, -1), (2, 1))
 THREE = ((1, 1), (0, -1), (4, -1), (5, 0), (2, 1), (3, 0), (7, -1), (6, 1))
@@ -32,6 +33,12 @@ THREES = all_told(corpus.THREES)
 FOURS = all_told(corpus.FOURS)
 FEW = [*NAMED, *ONES, *TWOS[::37], *THREES[::4], *FOURS[::7]]
 SOME = [*NAMED, *ONES, *SOME_TWOS, *THREES, *FOURS[::2]]
+
+WIDE = [reference_loops.strands(width, word) for width, word in
+        ((5, (1, 2, 3, 4)), (5, (3, 1, 4, 2, 3)), (6, (5, 3, 1, 2, 4)), (4, (2, 1, 3, 2, 1)), (3, (1, 2, 1, 2, 2)))]
+DRAWN = [reference.drawing(FOUR, 2), reference.drawing(LEAF, 3), reference.drawing(THREES[30], 2)]
+FAR = [reference.moved_crossings(pattern, (3, -700001, 999999, -5)) for pattern in (THREE, FOUR, FOURS[9], FOURS[31])]
+MANY = [*SOME, *WIDE, *DRAWN, *FAR]
 
 GREAT = 10 ** 59 + 7
 OTHER_LETTER = {"D": "L", "L": "D", "X": "X"}

@@ -7,6 +7,8 @@ import interface
 from samples import FOUR, THREE, TWO, StrictCase
 
 ENDS = ((1, 1), (0, 2), (3, 2), (2, 1))
+LEFT = (-1, 1, -1, 1)
+WEB = ((0, 2), (0,), ((0, 1, 0), (1, 1, 1)))
 CALLS = {
     "is_integer": (1,), "is_number": (1,), "is_quotient": ((1, 2),), "is_row": ((1,),), "is_word": (3, (1, 2)),
     "quotient_of": (6, -4), "plus": ((1, 2), (1, 3)), "minus": ((1, 2), (1, 3)), "times": ((1, 2), (1, 3)),
@@ -29,6 +31,24 @@ CALLS = {
     "loop_at": (THREE, "LX", 5), "walk_total": (THREE, (0,)), "windings_of": (THREE, "LX"), "is_walk": (THREE, (0,)),
     "threads_of": (THREE, "LX", 3), "thread_row": ((2, 1, 0), 4), "round_threads": ((2, 1, 0), 4), "repeated": ("DX", 3),
     "turned_laying": (TWO, 3, "DLX", 1), "is_kept": (TWO, 3, "DDD", 3), "kept_order": (TWO, 3, "DDD"),
+    "is_directions": (TWO, LEFT), "directed": (THREE, "LX"), "dark_left": (TWO,), "heights_of": (TWO, LEFT),
+    "loop_directions": (THREE, "LX", 5), "nest_of": (THREE, "LD"), "meetings": (THREE, "LX"),
+    "uncrossed": (THREE, "DX"), "x_count": ("DXX",), "dark_pieces": (THREE, "DD"), "light_pieces": (THREE, "DL"),
+    "rings_in": (THREE, "DD", (0, 2)), "borders_of": (THREE, "DD", (0, 2)), "pen_rows": (TWO, "X", 2),
+    "distances_of": (THREE,), "cut_of": (THREE,), "is_way": (THREE, (0, 4, 7)), "shortest_way": (THREE,),
+    "ways_count": (THREE,), "way_total": (THREE, (0, 3, 7), (0, 2, 7, 5)), "lows_laying": (THREE,),
+    "level_loops": (THREE, 2), "can_melt": (THREE, "LD", 0), "melted": (THREE, "LD", 0), "melted_down": (THREE, "LD", 1),
+    "can_have": (THREE, (2, 1)), "least_x": ((3, 2, 2),), "laying_with": (THREE, (2, 1)), "can_lay": (THREE, 3, 2),
+    "fewest_x": (THREE, 3, 2), "lay_threads": (THREE, 3, 2), "menu_of": (THREE, 3), "part_by": (12, 2),
+    "is_times": (((1, 2), (3, 1)),), "can_times": (TWO, 3, ((2, 1),)), "times_x": (2, ((2, 2),)),
+    "lay_times": (FOUR, 2, ((2, 2),)), "cut_paper": (THREE,), "lets_cut": (THREE, ("cut", (0, 4, 7), "LD")),
+    "menu_paper": (THREE, 3, 2), "lets_menu": (THREE, 3, 2, ("laid", "XD")), "dark_web": (THREE,),
+    "light_web": (THREE,), "is_web": (WEB,), "table_of": (WEB, (2, 3)), "determinant": ((((1, 2), (2, 1)),) * 2,),
+    "web_value": (WEB, (2, 3)), "ring_row": (FOUR,), "ring_count": (FOUR, 2), "light_row": (FOUR,),
+    "cut_by_row": ((0, 2, 1),), "loops_told": ((0, 2, 1),), "tree_count": (FOUR,), "is_tree": (TWO, "L"),
+    "web_trees": (WEB,), "letter_rows": (FOUR, 1), "roots_above": ((0, 2, 1), (-5, 2)), "root_floors": ((2, 6, 1), 10),
+    "is_rising": ((2, 6, 1),), "mean_loops": (FOUR,), "likely_loops": (FOUR,), "turn_row": (3,),
+    "turned_value": ((-1, 2), 2), "row_turned": ((6, 5, 1), 2),
 }
 
 

@@ -32,6 +32,12 @@ def written_from(pattern, corner):
     return tuple(written)
 
 
+def settled(pattern):
+    """The pattern with all names kept, crossings moved so that all shifts are small."""
+    _, leads = gone_through(pattern, 0)
+    return tuple([(to, shift + leads[end // 4] - leads[to // 4]) for end, (to, shift) in enumerate(pattern)])
+
+
 def writing_from(pattern, corner):
     """The pattern named anew, by going through it from a corner of the middle."""
     need(is_middle_corner(pattern, corner), "corner")

@@ -1,25 +1,16 @@
 """Light and dark faces and corners."""
 
-from threadsround.ends import end_before
-from threadsround.faces import faces_of, numbers_at, outside_of
+from threadsround.faces import numbers_at, outside_of, steps_from
 from threadsround.needs import is_crossing, need
 
 
 def dark_faces(pattern):
     """A tuple that tells for each face, by its number, whether it is dark."""
-    faces = faces_of(pattern)
-    numbers = numbers_at(pattern)
     outside = outside_of(pattern)
     dark = {outside: False}
-    waiting = [outside]
-    while waiting:
-        here = waiting.pop()
-        for corner in faces[here]:
-            beside = numbers[end_before(corner)]
-            if beside not in dark:
-                dark[beside] = not dark[here]
-                waiting.append(beside)
-    return tuple([dark[number] for number in range(len(faces))])
+    for face, _, beside in steps_from(pattern, outside):
+        dark[beside] = not dark[face]
+    return tuple([dark[number] for number in range(len(dark))])
 
 
 def dark_at(pattern):

@@ -37,6 +37,29 @@ def numbers_at(pattern):
     return tuple(numbers)
 
 
+def steps_from(pattern, start):
+    """The list of triples (face, corner, beside), by numbers, nearest to start first.
+
+    Each face but start is come to just once, as beside, from face over the line at corner.
+    """
+    faces = faces_of(pattern)
+    numbers = numbers_at(pattern)
+    reached = {start: True}
+    sequence = [start]
+    steps = []
+    k = 0
+    while k < len(sequence):
+        here = sequence[k]
+        for corner in faces[here]:
+            beside = numbers[end_before(corner)]
+            if beside not in reached:
+                reached[beside] = True
+                sequence.append(beside)
+                steps.append((here, corner, beside))
+        k += 1
+    return steps
+
+
 def walk_sum(pattern, corners):
     """The sum of the shifts at these corners."""
     return sum([pattern[corner][1] for corner in corners])

@@ -29,6 +29,11 @@ def need_laying(pattern, laying):
     need(is_laying(len(pattern) // 4, laying), "laying")
 
 
+def need_plain(pattern, laying):
+    """Refuse what is no plain laying of pattern."""
+    need(is_plain(len(pattern) // 4, laying), "laying")
+
+
 def joined_end(pattern, laying, end):
     """The end that the laying joins with end."""
     need_laying(pattern, laying)

@@ -36,6 +36,15 @@ def loops_of(pattern, laying):
     return tuple(loops)
 
 
+def loop_numbers(pattern, loops):
+    """The list that tells for each end which of the loops of a laying, by their places, passes it."""
+    numbers = [0] * len(pattern)
+    for number, loop in enumerate(loops):
+        for end in ends_passed(pattern, loop):
+            numbers[end] = number
+    return numbers
+
+
 def loop_at(pattern, laying, end):
     """The loop of the laying that passes end."""
     need_laying(pattern, laying)

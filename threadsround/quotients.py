@@ -14,6 +14,22 @@ def lowest(top, bottom):
     return (top // common, bottom // common)
 
 
+def whole_power(base, many):
+    """base to the power of many, a number."""
+    power = 1
+    for _ in range(many):
+        power = power * base
+    return power
+
+
+def power_of(value, many):
+    """The quotient of value to the power of many, an integer; value is not 0."""
+    top, bottom = value
+    if many < 0:
+        return lowest(whole_power(bottom, -many), whole_power(top, -many))
+    return lowest(whole_power(top, many), whole_power(bottom, many))
+
+
 def need_two(one, other):
     """Refuse the first one of these parameters that is no quotient."""
     need(is_quotient(one), "one")
