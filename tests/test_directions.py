@@ -34,6 +34,7 @@ class DirectionsTest(StrictCase):
     def test_any_value(self):
         right = (1, -1, -1, 1, 1, -1, -1, 1)
         self.same(is_directions(THREE, right), True)
+        self.same(is_directions(THREE, tuple(2 * x for x in right)), False)
         self.same(is_directions(pattern=THREE, thing=(0,) * 8), True)
         for wrong in (right[:7], right + (0,), right + (1, -1, 0, 0), (), right[:4], list(right), (True, *right[1:]),
                       tuple(bool(x) for x in right), (2, -2, -2, 2, 1, -1, -1, 1), (False,) * 8, (0,) * 7, (0,) * 9, (0.0,) * 8,

@@ -1,7 +1,6 @@
 """Layings with given windings."""
 
 from threadsround.distances import cut_of
-from threadsround.errors import NotLayable
 from threadsround.kinds import is_number
 from threadsround.loops import loop_numbers
 from threadsround.lows import lows_laying
@@ -40,11 +39,7 @@ def meeting_of(numbers, place):
 def laying_with(pattern, windings):
     """A laying with just these windings and as few X as can be."""
     many = least_x(windings) + len(windings)
-    cut = cut_of(pattern)
-    if many > cut:
-        raise NotLayable("many", many)
-    if (cut - many) % 2 == 1:
-        raise NotLayable("unlike", many)
+    # As many loops of the lows laying go round as the cut is great, so this refuses what cannot be had.
     plain = melted_down(pattern, lows_laying(pattern), many)
     numbers = loop_numbers(pattern, nest_of(pattern, plain))
     letters = list(plain)
