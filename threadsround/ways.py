@@ -46,7 +46,7 @@ def ways_count(pattern):
         for corner in faces[here]:
             beside = numbers[end_before(corner)]
             if distances[beside] > distances[here]:
-                counts[beside] += counts[here]
+                counts[beside] = counts[beside] + counts[here]
     return counts[outside_of(pattern)]
 
 
