@@ -13,7 +13,7 @@ NODES = set("""Module FunctionDef arguments arg ClassDef Return Assign AugAssign
 ImportFrom Expr Pass Break Continue BoolOp BinOp UnaryOp IfExp Dict Set ListComp DictComp SetComp comprehension Compare
 Call JoinedStr FormattedValue Constant Attribute Subscript Starred Name List Tuple Slice Load Store Del Delete And Or Add
 Sub Mult Mod Pow FloorDiv LShift RShift BitOr BitXor BitAnd Not UAdd USub Eq NotEq Lt LtE Gt GtE Is IsNot In NotIn
-ExceptHandler keyword alias""".split())
+ExceptHandler keyword alias Yield""".split())
 DUNDERS = set("""__init__ __eq__ __repr__ __str__ __len__ __iter__ __contains__ __xor__ __call__ __enter__
 __exit__""".split())
 NEVER = set("""register mro elements open input law version_info with_traceback add_note f_back tb_next co_names
@@ -199,6 +199,52 @@ def statement_faults(tree):
         yield "L24 written set", node.lineno
 
 
+def reads(node, name):
+    """Whether the name or attribute, as it is written, is read anywhere in node but inside a list(..) of its own."""
+    if called(node) == "list":
+        return False
+    if isinstance(node, (ast.Name, ast.Attribute)) and ast.unparse(node) == name:
+        return True
+    return any(reads(child, name) for child in ast.iter_child_nodes(node))
+
+
+def change_faults(tree):
+    """+= and the like, extend and update, that get what they change."""
+    for node in of(tree, ast.AugAssign):
+        target = node.target
+        while isinstance(target, ast.Subscript):
+            target = target.value
+        if reads(node.value, ast.unparse(target)):
+            yield "L5 L23 what is changed", node.lineno
+    for node in of(tree, ast.Call):
+        if isinstance(node.func, ast.Attribute) and node.func.attr in ("extend", "update"):
+            if any(reads(part, ast.unparse(node.func.value)) for part in node.args):
+                yield "L5 L23 what is changed", node.lineno
+
+
+def generator_names(trees):
+    return {node.name for tree in trees for node in of(tree, ast.FunctionDef) if of(node, ast.Yield)}
+
+
+def generator_faults(tree, generators):
+    """Calls of generators that are not iterated at once, and yields that are no statements."""
+    parents = parents_of(tree)
+    for node in of(tree, ast.Yield):
+        if not isinstance(parents[node], ast.Expr):
+            yield "L23 yield", node.lineno
+        above = parents[node]
+        while not isinstance(above, ast.FunctionDef):
+            above = parents[above]
+            if isinstance(above, (ast.Try, ast.With)):
+                yield "L23 yield in a try or with", node.lineno
+    for node in of(tree, ast.Name, ast.Attribute):
+        name = node.id if isinstance(node, ast.Name) else node.attr
+        if name in generators:
+            call = parents[node]
+            if not isinstance(call, ast.Call) or call.func is not node or not is_iterated(call, parents[call]):
+                yield f"L23 generator {name}", node.lineno
+
+
 def top_faults(tree):
     for k, node in enumerate(tree.body):
         if isinstance(node, (ast.FunctionDef, ast.ClassDef, ast.ImportFrom)):
@@ -267,8 +313,9 @@ def method_names(trees):
             if isinstance(item, ast.FunctionDef)}
 
 
-def faults_of(text, modules, own):
+def faults_of(text, modules, own, generators):
     tree = ast.parse(text)
     parts = (line_faults(text), string_faults(tree), name_faults(tree), binding_faults(tree), function_faults(tree),
-             call_faults(tree, own), statement_faults(tree), top_faults(tree), import_faults(tree, modules))
+             call_faults(tree, own), statement_faults(tree), top_faults(tree), import_faults(tree, modules),
+             change_faults(tree), generator_faults(tree, generators))
     return [fault for part in parts for fault in part]

@@ -1,5 +1,6 @@
 """Patterns and odd values for the tests, and a test case that tells True from 1."""
 
+import random
 import unittest
 
 import corpus
@@ -39,6 +40,24 @@ WIDE = [reference_loops.strands(width, word) for width, word in
 DRAWN = [reference.drawing(FOUR, 2), reference.drawing(LEAF, 3), reference.drawing(THREES[30], 2)]
 FAR = [reference.moved_crossings(pattern, (3, -700001, 999999, -5)) for pattern in (THREE, FOUR, FOURS[9], FOURS[31])]
 MANY = [*SOME, *WIDE, *DRAWN, *FAR]
+
+
+def grown(dice, crossings):
+    """A pattern of so many crossings, grown from one of one crossing by chance."""
+    pattern = dice.choice(ONES)
+    while len(pattern) < 4 * crossings:
+        face = dice.choice(reference.faces(pattern))
+        if len(face) > 1 and dice.random() < 0.8:
+            corner, other = dice.sample(face, 2)
+            pattern = reference.put_in(pattern, corner, other)
+        elif dice.random() < 0.3:
+            end = dice.choice(face)
+            pattern = reference.petal_on(pattern, end, dice.choice((0, sum(pattern[corner][1] for corner in face))))
+    return pattern
+
+
+DICE = random.Random(9)
+GROWN = [grown(DICE, crossings) for crossings in (5, 6, 7, 8) for _ in range(6)]
 
 GREAT = 10 ** 59 + 7
 OTHER_LETTER = {"D": "L", "L": "D", "X": "X"}

@@ -31,8 +31,15 @@ class LanguageTest(unittest.TestCase):
 
     def test_rules_file_by_file(self):
         own = rules.method_names(self.trees.values())
+        generators = rules.generator_names(self.trees.values())
+        self.assertEqual(sorted(generators), ["hear_all", "layings_of", "through"])
         for name, text in self.texts.items():
-            self.assertEqual(rules.faults_of(text, self.modules, own), [], name)
+            self.assertEqual(rules.faults_of(text, self.modules, own, generators), [], name)
+
+    def test_what_is_changed_is_found(self):
+        for text, many in (("xs[a] += xs[b]", 1), ("xs += xs[1:]", 1), ("xs[a] += ys[b]", 0), ("xs += list(xs)", 0), ("k += 1", 0),
+                           ("box.xs[a] += box.xs[b]", 1), ("xs.extend(xs)", 1), ("xs.extend(list(xs))", 0), ("xs.update(ys)", 0)):
+            self.assertEqual(len(list(rules.change_faults(ast.parse(text)))), many, text)
 
     def test_no_ring_of_imports(self):
         imports = {f"threadsround.{name[:-3]}": rules.imported_modules(tree) for name, tree in self.trees.items()}
