@@ -22,10 +22,14 @@ from threadsround.errors import InvalidPaper
 from threadsround.hearings import five_counts
 from threadsround.menupapers import lets_menu
 from threadsround.mirrors import inside_out, mirrored
+from threadsround.moduli import one_modulo
 from threadsround.onecounts import one_counts
+from threadsround.orbits import just_kept, unlike_count, unlike_ones
 from threadsround.ringrows import ring_row
 from threadsround.roots import roots_above
+from threadsround.roundcounts import round_count
 from threadsround.roundprices import cheapest_row
+from threadsround.squares import square_told
 from threadsround.takings import lets_down
 from threadsround.turnings import greatest_turning, sector_for, turnings_of
 
@@ -53,11 +57,16 @@ class CountsTest(StrictCase):
         self.assertGreater(len(by_five), 20)
 
     def test_names_and_mirrors_change_no_counts(self):
-        """(G12), its first sentence."""
+        """(G12), its first sentence, and all that is told of the ring row and the first count alone."""
         for pattern in SMALL:
-            told = (cut_of(pattern), ring_row(pattern), one_counts(pattern, 7))
+            told = self.told(pattern)
             for other in (disguised(pattern, 2), mirrored(pattern), inside_out(pattern), disguised(mirrored(pattern), 1)):
-                self.same((cut_of(other), ring_row(other), one_counts(other, 7)), told)
+                self.same(self.told(other), told)
+
+    def told(self, pattern):
+        return (cut_of(pattern), ring_row(pattern), one_counts(pattern, 7), unlike_ones(pattern, 6), round_count(pattern, 5, 2),
+                [unlike_count(pattern, 12, many) for many in (1, 2, 3)], [just_kept(pattern, 12, 3, many) for many in (1, 2)],
+                square_told(pattern, 8), one_modulo(pattern, 10 ** 29, 10 ** 9 + 7), five_counts(pattern))
 
     def test_turnings_are_the_divisors_of_the_greatest(self):
         """(G12), its second sentence: a drawing of m is alike to another one exactly for these m."""

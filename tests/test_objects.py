@@ -73,6 +73,20 @@ class ObjectsTest(StrictCase):
         # What was done to both objects of THREE was the same.
         self.assertEqual(self.told(sets[1]), self.told(sets[4]))
 
+    def test_the_same_call_twice(self):
+        state = (THREE, "DL", ((1, 2), (3, 4)), 6)
+        choice, rounds, bench = Choice(THREE, state[2]), Rounds(THREE), Bench(state)
+        calls = ((choice.best, "all"), (choice.least, "few"), (choice.ways_to, "one"), (choice.better, "all", "LD"),
+                 (choice.lead, "all", "LD", "DL"), (choice.for_all, 4, "few"), (choice.keeping, 4, "one"),
+                 (lambda: choice.span("all", 0, laying=choice.best("all")),), (lambda: choice.repriced(0, (7, 7)).priced,),
+                 (rounds.at_sectors, 4), (rounds.trees_at, 4), (rounds.unlike_at, 6, 1), (rounds.five,), (rounds.hears,),
+                 (rounds.parts_from, Rounds(FOUR)), (lambda: next(rounds.through(begin=3)),), (bench.tried, ("smooth", 1)),
+                 (bench.refusal_of, ("smooth", 0)), (bench.cut_now,), (bench.windings_now,), (bench.threads_now,), (bench.row_now,),
+                 (bench.price_now,))
+        for function, *args in calls:
+            self.same(function(*args), function(*args))
+        self.same((bench.log, choice.priced), ((state, ()), state[2]))
+
     def test_objects_of_one_kind_equal_none_of_another(self):
         for one in made(THREE):
             for other in made(THREE):

@@ -54,6 +54,12 @@ class OneCountsTest(StrictCase):
         less = reference_rows.turned(row[1:], sectors)
         return turned, sectors * reference_rows.trees(pattern) * less[0] // row[1]
 
+    def test_drawings_of_drawings(self):
+        for pattern in (TWO, THREE, FOUR, LEAF, STRANDS[0]):
+            for a, b in ((2, 2), (3, 2), (2, 5), (4, 9)):
+                if a * len(pattern) <= 144:
+                    self.same(one_count(reference.drawing(pattern, a), b), one_count(pattern, a * b))
+
     def test_refusals(self):
         self.refuses_in_order(one_count, ("pattern", "sectors"), (FOUR, 3), ((), NO_COUNTS))
         self.refuses_in_order(one_counts, ("pattern", "most"), (FOUR, 3), ((), (*NO_INTEGERS, 0, -1, -GREAT)))

@@ -3,12 +3,12 @@
 from threadsround.hearings import five_counts, heard_from
 from threadsround.kinds import is_count
 from threadsround.needs import need
-from threadsround.onecounts import one_count
+from threadsround.onecounts import ones_by
 from threadsround.orbits import unlike_count
 from threadsround.partings import parts_at
 from threadsround.patternchecker import is_pattern
 from threadsround.ringrows import ring_row
-from threadsround.roundcounts import round_row
+from threadsround.rowturning import row_turned
 from threadsround.trees import tree_count
 
 
@@ -28,12 +28,12 @@ class Rounds:
     def at_sectors(self, many):
         """The ring row of the drawing of many sectors."""
         need(is_count(many), "many")
-        return round_row(self._pattern, many)
+        return row_turned(self._row, many)
 
     def trees_at(self, many):
         """The number of the trees of the drawing of many sectors."""
         need(is_count(many), "many")
-        return one_count(self._pattern, many)
+        return ones_by(self._row, self._first, many)
 
     def unlike_at(self, sectors, many):
         """How many lots the counted layings with just many loops make, of unlike_count."""
@@ -57,5 +57,5 @@ class Rounds:
         need(is_count(begin), "begin")
         many = begin
         while True:
-            yield one_count(self._pattern, many)
+            yield ones_by(self._row, self._first, many)
             many += 1

@@ -38,7 +38,6 @@ def keeping_price(pattern, sectors, manner, prices):
 
 def cheapest_row(pattern, prices):
     """The row that counts the cheapest layings of the manner "all" by their loops."""
-    need_prices(pattern, prices)
     price = least_price(pattern, "all", prices)
     counts = [0] * (cut_of(pattern) // 2 + 1)
     for laying in layings_of(pattern, "all"):
